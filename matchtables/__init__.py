@@ -1,0 +1,1 @@
+"""Table analyzer for packet switches: counts what the entries of a match table do."""
