@@ -9,10 +9,17 @@ OTHER = 3
 FIND = 4
 SHARES = 5
 MISSES = 6
+MATTERS = 7
+SPARE = 8
+DROP = 9
+OVERLAP = 10
+DOING = 11
+KEEP = 12
+DIFFER = 13
 
 # By call: how many whole numbers stand ahead of its row, and whether it has a row.
-PLAIN_COUNTS = (0, 2, 1, 1, 0, 0, 0, 1)
-HAS_ROW = (True, True, False, False, True, False, False, False)
+PLAIN_COUNTS = (0, 2, 1, 1, 0, 0, 0, 1, 0, 0, 2, 1, 0, 0, 0)
+HAS_ROW = (True, True, False, False, True, False, False, False, False, False, False, False, False, False, False)
 
 
 def answers(calls):
@@ -51,5 +58,19 @@ def call_answer(session, operation, plain, row):
         return session.shares()
     if operation == MISSES:
         return session.misses()
-    # The one call left is 7, matters.
-    return session.matters(plain[0])
+    if operation == MATTERS:
+        return session.matters(plain[0])
+    if operation == SPARE:
+        return session.spare()
+    if operation == DROP:
+        return session.drop()
+    if operation == OVERLAP:
+        return session.overlap(plain[0], plain[1])
+    if operation == DOING:
+        return session.doing(plain[0])
+    if operation == KEEP:
+        return session.keep()
+    if operation == DIFFER:
+        return session.differ()
+    # The one call left is 14, list.
+    return session.listed()

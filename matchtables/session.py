@@ -1,7 +1,8 @@
 """The operations on a table: each gives back the whole numbers that answer it."""
 
 from matchtables.match_kinds import EXACT, RANGE
-from matchtables.table import Table
+from matchtables.regions import region_sizes
+from matchtables.table import Table, key_lists
 
 MOST_KEYS = 3
 WIDEST_KEY = 32
@@ -10,16 +11,21 @@ HIGHEST_PRIORITY = 65535
 
 
 class Session:
-    """What one list of calls works on."""
+    """What one list of calls works on: a table, and the table that was saved last."""
 
     def __init__(self):
-        self.table = Table([(EXACT, 8)])
+        self.start_table([(EXACT, 8)])
+
+    def start_table(self, layout):
+        """Begin a new table, which is also saved."""
+        self.table = Table(layout)
+        self.saved = self.table.snapshot()
 
     def new_table(self, numbers):
         """Answer the call table."""
         if not is_layout(numbers):
             return [-1]
-        self.table = Table(pairs_of(numbers))
+        self.start_table(pairs_of(numbers))
         return [sum([width for kind, width in self.table.layout])]
 
     def new_entry(self, priority, action, key_numbers):
@@ -72,14 +78,57 @@ class Session:
         """Answer the call matters."""
         if not self.table.has_number(number):
             return [-2]
-        relevant = [region for region in self.table.regions() if self.is_relevant(number, region[0])]
+        relevant = [region for region in self.table.regions() if self.table.relevant_number(region[0]) == number]
         return share_result(self.table.layout, relevant)
 
-    def is_relevant(self, number, matching):
-        """Tell whether the entry with this number is relevant where these entries match."""
-        if found_number(matching) != number:
-            return False
-        return self.table.action_among(matching) != self.table.action_among(matching[1:])
+    def spare(self):
+        """Answer the call spare."""
+        redundant = self.table.redundant_numbers()
+        return [len(redundant)] + redundant
+
+    def drop(self):
+        """Answer the call drop."""
+        for number in self.table.redundant_numbers():
+            self.table.remove_number(number)
+        return [len(self.table.entries)]
+
+    def overlap(self, number, other_number):
+        """Answer the call overlap."""
+        if not self.table.has_number(number) or not self.table.has_number(other_number):
+            return [-2]
+        common = [region for region in self.table.regions() if has_both(region[0], number, other_number)]
+        return share_result(self.table.layout, common)
+
+    def doing(self, action):
+        """Answer the call doing."""
+        acting = [region for region in self.table.regions() if self.table.action_among(region[0]) == action]
+        return share_result(self.table.layout, acting)
+
+    def keep(self):
+        """Answer the call keep."""
+        self.saved = self.table.snapshot()
+        return [len(self.saved.entries)]
+
+    def differ(self):
+        """Answer the call differ."""
+        lists = key_lists(self.saved.entries + self.table.entries)
+        sizes = region_sizes(self.table.layout, lists)
+        before = self.saved.regions_by(lists, sizes)
+        now = self.table.regions_by(lists, sizes)
+        differing = [
+            new for old, new in zip(before, now)
+            if self.saved.action_among(old[0]) != self.table.action_among(new[0])
+        ]
+        return share_result(self.table.layout, differing)
+
+    def listed(self):
+        """Answer the call list."""
+        answer = [len(self.table.entries)]
+        for entry in self.table.entries:
+            answer.extend([entry.number, entry.priority, entry.action])
+            answer.extend(entry.key_numbers)
+        answer.append(self.table.default_action)
+        return answer
 
 
 def pairs_of(numbers):
@@ -99,6 +148,12 @@ def found_number(matching):
     if len(matching) == 0:
         return 0
     return matching[0].number
+
+
+def has_both(matching, number, other_number):
+    """Tell whether the entries with these two numbers are among those that match."""
+    numbers = [entry.number for entry in matching]
+    return number in numbers and other_number in numbers
 
 
 def share_result(layout, regions):

@@ -46,7 +46,7 @@ class Table:
 
     def remove_number(self, number):
         """Remove the entry with this number."""
-        self.entries = [entry for entry in self.entries if entry.number != number]
+        self.entries = without(self.entries, number)
 
     def set_default(self, action):
         """Make this the action where no entry is found."""
@@ -85,16 +85,67 @@ class Table:
             return self.default_action
         return matching[0].action
 
+    def relevant_number(self, matching):
+        """Give the number of the entry that is relevant where these entries match, 0 if none is."""
+        if self.action_among(matching) == self.action_among(matching[1:]):
+            return 0
+        return matching[0].number
+
+    def redundant_numbers(self):
+        """Give the redundant entries' numbers in the order in which they are determined."""
+        matchings = [matching for matching, count, first in self.regions()]
+        remaining = self.entries
+        redundant = []
+        number = self.last_idle(remaining, matchings)
+        while number != 0:
+            redundant.append(number)
+            remaining = without(remaining, number)
+            matchings = [without(matching, number) for matching in matchings]
+            number = self.last_idle(remaining, matchings)
+        return redundant
+
+    def last_idle(self, entries, matchings):
+        """Give the number of the entry added last that is nowhere relevant, 0 if there is none."""
+        relevant = [self.relevant_number(matching) for matching in matchings]
+        # Numbers rise in the order in which entries are added.
+        return max([entry.number for entry in entries if entry.number not in relevant], default=0)
+
     def regions(self):
         """Split all key values by the entries that match them.
 
         Each region is the list of these entries, the one that is found ahead; how many key
         values it has; and the first of them, with its keys' bits one behind another.
         """
-        ranked = self.ranked()
-        sizes = region_sizes(self.layout, [entry.key_numbers for entry in ranked])
-        split = []
+        lists = key_lists(self.entries)
+        return self.regions_by(lists, region_sizes(self.layout, lists))
+
+    def regions_by(self, lists, sizes):
+        """Give the regions of a split by lists; the key numbers of all entries are among these."""
+        placed = [(entry, lists.index(entry.key_numbers)) for entry in self.ranked()]
+        regions = []
         for together, size in sizes.items():
-            matching = [entry for place, entry in enumerate(ranked) if is_in(place, together)]
-            split.append((matching, size[0], size[1]))
-        return split
+            matching = [entry for entry, place in placed if is_in(place, together)]
+            regions.append((matching, size[0], size[1]))
+        return regions
+
+    def snapshot(self):
+        """Give a table that stays as this one is now, whatever becomes of this one."""
+        saved = Table(self.layout)
+        saved.entries = list(self.entries)
+        saved.next_number = self.next_number
+        saved.default_action = self.default_action
+        return saved
+
+
+def key_lists(entries):
+    """Give the different lists of key numbers of some entries."""
+    lists = []
+    for entry in entries:
+        if entry.key_numbers not in lists:
+            lists.append(entry.key_numbers)
+    return lists
+
+
+def without(entries, number):
+    """Give the entries but the one with this number."""
+    return [entry for entry in entries if entry.number != number]

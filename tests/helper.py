@@ -9,6 +9,12 @@ EXACT, PREFIX, MASK, RANGE = 0, 1, 2, 3
 KINDS = (EXACT, PREFIX, MASK, RANGE)
 SHARES = [5]
 MISSES = [6]
+SPARE = [8]
+DROP = [9]
+KEEP = [12]
+DIFFER = [13]
+LIST = [14]
+TOP = 4294967295
 
 
 def table(*keys):
@@ -33,6 +39,14 @@ def find(*values):
 
 def matters(number):
     return [7, number]
+
+
+def overlap(one, two):
+    return [10, one, two]
+
+
+def doing(action):
+    return [11, action]
 
 
 def ask(*calls):
@@ -81,6 +95,10 @@ def shares_answer(results):
     return answer
 
 
+WIDEST = {kind: table(*[kind, 32] * 3) for kind in KINDS}
+WHOLE = {PREFIX: [0, 0], MASK: [0, 0], RANGE: [0, TOP]}
+
+
 def bits(number, width):
     return format(number, "b").zfill(width)
 
@@ -120,11 +138,11 @@ class Model:
         self.entries = [e for e in self.entries if e[0] != number]
         return [len(self.entries)]
 
-    def ranked(self):
+    def ranked(self, entries=None):
         def rank(e):
             lengths = [e[3][2 * k + 1] for k, (kind, _) in enumerate(self.layout) if kind == PREFIX]
             return (e[1], sum(lengths), -e[0])
-        return sorted(self.entries, key=rank, reverse=True)
+        return sorted(self.entries if entries is None else entries, key=rank, reverse=True)
 
     def action(self, matching):
         return matching[0][2] if matching else self.default
@@ -154,6 +172,151 @@ class PlainCount(Model):
     @staticmethod
     def described(key_values):
         return result(len(key_values), *(min(key_values) if key_values else ()))
+
+
+class PlainSession(Model):
+    """Answers every call by trying each key value; for small tables.
+
+    A set of key values is a whole number here, with a one at the place of each of them.
+    """
+
+    def __init__(self, layout=((EXACT, 8),)):
+        self.start(list(layout))
+
+    def start(self, layout):
+        super().__init__(layout)
+        self.values = list(itertools.product(*[range(1 << width) for _, width in layout]))
+        self.all = (1 << len(self.values)) - 1
+        self.tried = {}
+        self.saved = [], 0
+        return [sum(width for _, width in layout)]
+
+    def answer(self, call):
+        number, numbers = call[0], call[1:]
+        if number == 0:
+            return self.table(numbers[1:])
+        if number == 1:
+            return self.entry(numbers[0], numbers[1], numbers[3:])
+        if number == 4:
+            return self.find(tuple(numbers[1:]))
+        return {2: self.gone, 3: self.other, 5: self.shares, 6: self.misses, 7: self.matters, 8: self.spare,
+                9: self.drop, 10: self.overlap, 11: self.doing, 12: self.keep, 13: self.differ,
+                14: self.list}[number](*numbers)
+
+    def by_number(self, number):
+        return [e for e in self.entries if e[0] == number]
+
+    def matched(self, e):
+        """The key values that an entry matches."""
+        numbers = tuple(e[3])
+        if numbers not in self.tried:
+            keys = [[meets(kind, width, *numbers[2 * k:2 * k + 2], value) for value in range(1 << width)]
+                    for k, (kind, width) in enumerate(self.layout)]
+            self.tried[numbers] = sum(1 << at for at, values in enumerate(self.values)
+                                      if all(key[value] for key, value in zip(keys, values)))
+        return self.tried[numbers]
+
+    def found(self, entries):
+        """The key values by the entry found; in the end those without one."""
+        left, found = self.all, []
+        for e in self.ranked(entries):
+            found.append((e, left & self.matched(e)))
+            left &= ~self.matched(e)
+        return found + [(None, left)]
+
+    def acting(self, entries, default):
+        """The key values by action."""
+        acting = {}
+        for e, part in self.found(entries):
+            action = e[2] if e else default
+            acting[action] = acting.get(action, 0) | part
+        return acting
+
+    def unlike(self, one, two):
+        """The key values at which two tables' actions, each by acting, are not the same."""
+        return sum(part & ~two.get(action, 0) for action, part in one.items())
+
+    def relevant(self, entries, number):
+        without = [e for e in entries if e[0] != number]
+        return self.unlike(self.acting(entries, self.default), self.acting(without, self.default))
+
+    def described(self, part):
+        return result(bin(part).count("1"), *(self.values[(part & -part).bit_length() - 1] if part else ()))
+
+    def table(self, keys):
+        layout = list(zip(keys[::2], keys[1::2]))
+        if len(keys) not in (2, 4, 6) or any(kind not in KINDS or width not in range(1, 33) for kind, width in layout):
+            return [-1]
+        return self.start(layout)
+
+    def entry(self, priority, action, numbers):
+        if priority > 65535 or len(numbers) != 2 * len(self.layout):
+            return [-1]
+        for k, (kind, width) in enumerate(self.layout):
+            first, second = numbers[2 * k:2 * k + 2]
+            highest = {EXACT: 0, PREFIX: width, MASK: (1 << width) - 1, RANGE: (1 << width) - 1}[kind]
+            if first >= 1 << width or second > highest or kind == RANGE and first > second:
+                return [-1]
+        return self.enter(priority, action, numbers)
+
+    def gone(self, number):
+        return self.remove(number) if self.by_number(number) else [-2]
+
+    def other(self, action):
+        self.default = action
+        return [0]
+
+    def find(self, values):
+        if values not in self.values:
+            return [-1]
+        place = 1 << self.values.index(values)
+        found = [e for e, part in self.found(self.entries) if part & place][0]
+        return [found[0], found[2]] if found else [0, self.default]
+
+    def shares(self):
+        shares = {e[0]: self.described(part) for e, part in self.found(self.entries)[:-1]}
+        return shares_answer(sorted(shares.items()))
+
+    def misses(self):
+        return self.described(self.found(self.entries)[-1][1])
+
+    def matters(self, number):
+        return self.described(self.relevant(self.entries, number)) if self.by_number(number) else [-2]
+
+    def redundant(self):
+        entries, redundant = list(self.entries), []
+        while True:
+            idle = [e for e in entries if not self.relevant(entries, e[0])]
+            if not idle:
+                return redundant
+            entries.remove(idle[-1])
+            redundant.append(idle[-1][0])
+
+    def spare(self):
+        return [len(self.redundant()), *self.redundant()]
+
+    def drop(self):
+        redundant = self.redundant()
+        self.entries = [e for e in self.entries if e[0] not in redundant]
+        return [len(self.entries)]
+
+    def overlap(self, one, two):
+        both = self.by_number(one) + self.by_number(two)
+        return self.described(self.matched(both[0]) & self.matched(both[1])) if len(both) == 2 else [-2]
+
+    def doing(self, action):
+        return self.described(self.acting(self.entries, self.default).get(action, 0))
+
+    def keep(self):
+        self.saved = list(self.entries), self.default
+        return [len(self.entries)]
+
+    def differ(self):
+        return self.described(self.unlike(self.acting(*self.saved), self.acting(self.entries, self.default)))
+
+    def list(self):
+        rows = [number for e in self.entries for number in (e[0], e[1], e[2], *e[3])]
+        return [len(self.entries), *rows, self.default]
 
 
 class WideCount(Model):
@@ -204,13 +367,10 @@ class WideCount(Model):
         """How many key values of a box are in none of the other boxes."""
         if box is None:
             return 0
-        total, rest = self.size(box), []
-        for taken in without:
-            common = self.meet(box, taken)
-            if common is not None:
-                total -= self.left(common, rest)
-                rest.append(taken)
-        return total
+        taken = list(dict.fromkeys(common for common in (self.meet(box, other) for other in without) if common))
+        if box in taken:
+            return 0
+        return self.size(box) - sum(self.left(common, taken[:at]) for at, common in enumerate(taken))
 
     def described(self, terms):
         """The share result of the key values of all terms together, which have none in common."""
@@ -243,7 +403,10 @@ class WideCount(Model):
         return self.described([(self.whole(), [self.box(e) for e in self.entries])])
 
     def relevance(self, number):
-        ranked = self.ranked()
+        return self.described(self.relevance_terms(self.entries, number))
+
+    def relevance_terms(self, entries, number):
+        ranked = self.ranked(entries)
         place = [e[0] for e in ranked].index(number)
         mine = self.box(ranked[place])
         above = [self.box(e) for e in ranked[:place]]
@@ -254,6 +417,39 @@ class WideCount(Model):
             above.append(self.box(later))
         if self.default != ranked[place][2]:
             terms.append((mine, above))
+        return terms
+
+    def spare(self):
+        entries, redundant = list(self.entries), []
+        while True:
+            idle = [e for e in entries if not any(self.left(*t) for t in self.relevance_terms(entries, e[0]))]
+            if not idle:
+                return [len(redundant), *redundant]
+            entries.remove(idle[-1])
+            redundant.append(idle[-1][0])
+
+    def found_boxes(self, entries, default):
+        """By precedence: the box of each entry, and in the end that of all key values, with its action."""
+        return [(self.box(e), e[2]) for e in self.ranked(entries)] + [(self.whole(), default)]
+
+    def doing(self, action):
+        found = self.found_boxes(self.entries, self.default)
+        return self.described([(box, [above for above, _ in found[:at]])
+                               for at, (box, its) in enumerate(found) if its == action])
+
+    def overlap(self, one, two):
+        boxes = {e[0]: self.box(e) for e in self.entries}
+        return self.described([(self.meet(boxes[one], boxes[two]), [])])
+
+    def differing(self, saved, default):
+        """What differ must answer where these entries and this default action are saved."""
+        terms = []
+        old, new = self.found_boxes(saved, default), self.found_boxes(self.entries, self.default)
+        for i, (old_box, old_action) in enumerate(old):
+            for k, (new_box, new_action) in enumerate(new):
+                if old_action != new_action:
+                    above = [box for box, _ in old[:i] + new[:k]]
+                    terms.append((self.meet(old_box, new_box), above))
         return self.described(terms)
 
 
@@ -267,6 +463,21 @@ def drawn_numbers(draw, kind, width):
     if kind == MASK:
         return [first, second & draw.getrandbits(width) if draw.random() < 0.6 else second]
     return sorted([first, second])
+
+
+def drawn_wide_numbers(draw, layout):
+    """An entry's key numbers for keys of 32 bits, some of them open, so that entries overlap."""
+    numbers = []
+    for kind, width in layout:
+        is_open = kind in WHOLE and draw.random() < 0.3
+        numbers += WHOLE[kind] if is_open else drawn_numbers(draw, kind, width)
+        if kind == PREFIX and draw.random() < 0.7:
+            numbers[-1] = draw.randint(0, 3)
+        if kind == MASK and draw.random() < 0.7:
+            numbers[-1] = 1 << draw.randrange(32) | 1 << draw.randrange(32)
+        if kind == EXACT:
+            numbers[-2] = draw.randrange(4)
+    return numbers
 
 
 def drawn_table(draw, model, most_entries):
@@ -287,6 +498,21 @@ def drawn_table(draw, model, most_entries):
             calls.append(gone(number))
             expected.append(model.remove(number))
     return calls, expected
+
+
+def drawn_lists(draw, layout, most=10):
+    """Different lists of key numbers, at most as many as both tables may have at a call of differ."""
+    lists = []
+    for _ in range(most):
+        numbers = [n for kind, width in layout for n in drawn_numbers(draw, kind, width)]
+        if numbers not in lists:
+            lists.append(numbers)
+    return lists
+
+
+def drawn_entry(draw, lists, actions=3):
+    """A call of entry with one of these lists; few priorities and actions, so that many are redundant."""
+    return entry(draw.randrange(2), draw.randrange(actions), *draw.choice(lists))
 
 
 def drawn_layout(draw, kinds, total):

@@ -1,8 +1,6 @@
 import unittest
 
-from tests.helper import MISSES, SHARES, ask, entry, find, gone, last, matters, result, shares_answer, table
-
-TOP = 4294967295
+from tests.helper import MISSES, SHARES, TOP, ask, entry, find, gone, last, matters, result, shares_answer, table
 
 
 class Good(unittest.TestCase):

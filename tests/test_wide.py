@@ -3,13 +3,9 @@
 import unittest
 
 from tests.helper import (
-    EXACT, KINDS, MASK, MISSES, PREFIX, RANGE, SHARES, WideCount, ask, count_in, drawing, drawn_numbers, drawn_table,
-    entry, find, last, matters, other, parts_of, result, shares_answer, table,
+    EXACT, KINDS, MASK, MISSES, PREFIX, RANGE, SHARES, TOP, WHOLE, WIDEST, WideCount, ask, count_in, drawing,
+    drawn_table, drawn_wide_numbers, entry, find, last, matters, other, parts_of, result, shares_answer, table,
 )
-
-TOP = 4294967295
-WIDEST = {kind: table(*[kind, 32] * 3) for kind in KINDS}
-WHOLE = {PREFIX: [0, 0], MASK: [0, 0], RANGE: [0, TOP]}
 
 
 class ByHand(unittest.TestCase):
@@ -102,16 +98,7 @@ class Drawn(unittest.TestCase):
         calls = [table(*[number for key in model.layout for number in key]), other(2)]
         model.default = 2
         while len(model.entries) < 8:
-            numbers = []
-            for kind, width in model.layout:
-                is_open = kind in WHOLE and draw.random() < 0.3
-                numbers += WHOLE[kind] if is_open else drawn_numbers(draw, kind, width)
-                if kind == PREFIX and draw.random() < 0.7:
-                    numbers[-1] = draw.randint(0, 3)
-                if kind == MASK and draw.random() < 0.7:
-                    numbers[-1] = 1 << draw.randrange(32) | 1 << draw.randrange(32)
-                if kind == EXACT:
-                    numbers[-2] = draw.randrange(4)
+            numbers = drawn_wide_numbers(draw, model.layout)
             call = draw.randrange(3), draw.randrange(4), numbers
             if model.enter(*call) != [-4]:
                 calls.append(entry(call[0], call[1], *numbers))
